@@ -1,0 +1,1 @@
+"""Liftheard: a lift that is only heard."""
