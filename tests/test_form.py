@@ -15,6 +15,15 @@ BUILTINS = set(
 INTERFACE = {
     "houses": {"House": "gaps bells"},
     "hearing": {"floors_behind": "house start log", "first_wrong": "house start log"},
+    "ways": {
+        "ways": "house start log", "way_count": "house start log", "way_at": "house start log index",
+        "judged": "house start log floor", "passed": "house start log floor",
+    },
+    "pools": {"houses_left": "pool start log", "possible_gaps": "bells count most start log"},
+    "riders": {"fits": "house stops riders", "rider_ways": "house start log riders"},
+    "serving": {
+        "served": "house rule begin calls", "waiting": "house rule begin calls", "best_rules": "house begin calls",
+    },
 }
 METHODS = {("houses", "House"): {"seconds": "self one other", "turned": "self", "gaps": "self", "bells": "self",
                                  "floors": "self", "__len__": "self", "__eq__": "self other"}}
