@@ -48,6 +48,16 @@ class TestEachRule(ServingCase):
         for rule in RULES:
             self.assertEqual(served(HOUSE, rule, 2, (2,)), [(2, 0)])
 
+    def test_equally_near_ones(self):
+        told = [served(EVEN, rule, 2, (3, 1)) for rule in RULES]
+        self.assertEqual(told, [[(3, 3), (1, 9)], [(1, 3), (3, 9)], [(3, 3), (1, 9)]])
+
+    def test_above_and_below(self):
+        told = [served(HOUSE, rule, 1, (0, 3, 2)) for rule in RULES]
+        self.assertEqual(told, [
+            [(0, 3), (3, 12), (2, 16)], [(2, 2), (3, 6), (0, 15)], [(2, 2), (3, 6), (0, 15)],
+        ])
+
     def test_upside_down_house_has_other_seconds(self):
         self.assertEqual(served(HOUSE.turned(), "first", 0, (1, 3)), [(1, 4), (3, 9)])
 
