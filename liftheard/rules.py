@@ -11,10 +11,25 @@ def check_rule(rule):
         raise UnknownRule(f"there is no rule {rule}")
 
 
-def check_calls(house, calls):
-    """Raise InvalidCalls for the first call that is no floor, or was called already."""
+def wrong_call(house, calls):
+    """Return the index of the first call that is no floor, or was called already; None if all are right."""
     for index, floor in enumerate(calls):
         if floor not in house.floors or floor in calls[:index]:
+            return index
+    return None
+
+
+def check_calls(house, calls):
+    """Raise InvalidCalls for the first call that is no floor, or was called already."""
+    index = wrong_call(house, calls)
+    if index is not None:
+        raise InvalidCalls(index)
+
+
+def check_all_calls(house, several):
+    """Raise InvalidCalls for the first of several tuples of calls that cannot be."""
+    for index, calls in enumerate(several):
+        if wrong_call(house, calls) is not None:
             raise InvalidCalls(index)
 
 

@@ -24,6 +24,9 @@ INTERFACE = {
     "serving": {
         "served": "house rule begin calls", "waiting": "house rule begin calls", "best_rules": "house begin calls",
     },
+    "timed": {"served_timed": "house rule begin calls"},
+    "orders": {"least_waiting": "house begin calls"},
+    "nights": {"difference": "house one other begin most", "rules_of": "house begin nights"},
 }
 METHODS = {("houses", "House"): {"seconds": "self one other", "turned": "self", "gaps": "self", "bells": "self",
                                  "floors": "self", "__len__": "self", "__eq__": "self other"}}
