@@ -56,3 +56,22 @@ def next_stop(house, rule, here, is_up, calls):
     if rule == "near":
         return nearest(house, here, calls), is_up
     return next_in_sweep(here, is_up, calls)
+
+
+def stops_of(house, rule, begin, calls):
+    """Return the list of the stops, each with its second, of a lift that serves calls, each a second and a floor."""
+    here = begin
+    is_up = True
+    second = 0
+    left = list(calls)
+    stops = []
+    while left:
+        # The first call that is left came first: if it has not come yet, the lift waits for it.
+        second = max(second, left[0][0])
+        known = [floor for come, floor in left if come <= second]
+        floor, is_up = next_stop(house, rule, here, is_up, known)
+        second += house.seconds(here, floor)
+        stops.append((floor, second))
+        left = [(come, called) for come, called in left if called != floor or come > second]
+        here = floor
+    return stops

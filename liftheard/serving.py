@@ -1,7 +1,7 @@
 """How a lift serves calls that come all at once, and by which rules they wait least."""
 
 from liftheard.houses import check_floors
-from liftheard.rules import RULES, check_calls, check_rule, next_stop
+from liftheard.rules import RULES, check_calls, check_rule, stops_of
 
 
 def served(house, rule, begin, calls):
@@ -9,18 +9,7 @@ def served(house, rule, begin, calls):
     check_rule(rule)
     check_floors(house, (begin,))
     check_calls(house, calls)
-    here = begin
-    is_up = True
-    second = 0
-    left = list(calls)
-    stops = []
-    while left:
-        floor, is_up = next_stop(house, rule, here, is_up, left)
-        second += house.seconds(here, floor)
-        stops.append((floor, second))
-        left.remove(floor)
-        here = floor
-    return stops
+    return stops_of(house, rule, begin, [(0, floor) for floor in calls])
 
 
 def waiting(house, rule, begin, calls):

@@ -2,7 +2,7 @@
 
 from liftheard.errors import InvalidCalls
 from liftheard.houses import check_floors
-from liftheard.rules import check_rule, next_stop
+from liftheard.rules import check_rule, stops_of
 
 LAST_SECOND = 1000000
 
@@ -21,18 +21,4 @@ def served_timed(house, rule, begin, calls):
     check_rule(rule)
     check_floors(house, (begin,))
     check_timed(house, calls)
-    here = begin
-    is_up = True
-    second = 0
-    left = list(calls)
-    stops = []
-    while left:
-        # The first call that is left came first: if it has not come yet, the lift waits for it.
-        second = max(second, left[0][0])
-        known = [floor for come, floor in left if come <= second]
-        floor, is_up = next_stop(house, rule, here, is_up, known)
-        second += house.seconds(here, floor)
-        stops.append((floor, second))
-        left = [(come, called) for come, called in left if called != floor or come > second]
-        here = floor
-    return stops
+    return stops_of(house, rule, begin, calls)
