@@ -19,6 +19,27 @@ def numbers_ahead(house, links):
     return numbers[::-1]
 
 
+def numbers_behind(house, start, links):
+    """Return for each moment, and for each floor, how many ways lead from the beginning to this floor."""
+    numbers = [[1 if floor in start else 0 for floor in house.floors]]
+    for ends_of_floors in links:
+        behind = [0] * len(house)
+        for number, ends in zip(numbers[-1], ends_of_floors):
+            for end in ends:
+                behind[end] += number
+        numbers.append(behind)
+    return numbers
+
+
+def numbers_through(house, start, log):
+    """Return for each moment, and for each floor, how many ways have the lift on this floor then."""
+    links = links_of(house, log)
+    numbers = []
+    for behind, ahead in zip(numbers_behind(house, start, links), numbers_ahead(house, links)):
+        numbers.append([one * other for one, other in zip(behind, ahead)])
+    return numbers
+
+
 def number_from(floors, numbers):
     """Return how many ways begin on any of these floors."""
     return sum([numbers[0][floor] for floor in floors])

@@ -27,6 +27,16 @@ INTERFACE = {
     "timed": {"served_timed": "house rule begin calls"},
     "orders": {"least_waiting": "house begin calls"},
     "nights": {"difference": "house one other begin most", "rules_of": "house begin nights"},
+    "sounds": {"sounds": "house begin stops"},
+    "looks": {
+        "floors_at": "house start log moment", "best_moment": "house start log", "fewest_looks": "house start log",
+        "floors_by": "house start log slack", "least_slack": "house start log",
+    },
+    "wrongs": {"wrong_bells": "house start log most", "bell_judged": "house start log floor"},
+    "pairs": {
+        "two_floors": "house one other log", "two_ways": "house one other log",
+        "whose_row": "house one other log index",
+    },
 }
 METHODS = {("houses", "House"): {"seconds": "self one other", "turned": "self", "gaps": "self", "bells": "self",
                                  "floors": "self", "__len__": "self", "__eq__": "self other"}}

@@ -5,7 +5,7 @@ import unittest
 
 from liftheard.errors import InvalidLog, InvalidNumber, NoWay, UnknownFloor
 from liftheard.houses import House
-from liftheard.ways import judged, passed, way_at, way_count, ways
+from liftheard.ways import judged, numbers_through, passed, way_at, way_count, ways
 
 HOUSE = House((3, 2, 4), (1, 3))
 EVEN = House((3, 3), (1,))
@@ -93,6 +93,15 @@ class TestWays(unittest.TestCase):
     def test_first_ones_of_very_many(self):
         found = ways(TEN, (4,), HUNDRED_GAPS)
         self.assertEqual([next(found)[-2:] for _ in range(12)], [(0, k) for k in range(10)] + [(1, 0), (1, 1)])
+
+
+class TestNumbersThrough(unittest.TestCase):
+
+    def test_numbers_of_ways_by_moment_and_floor(self):
+        log = [("gap",), ("go", 9)]
+        self.assertEqual(numbers_through(HOUSE, (0, 1), log), [[2, 2, 0, 0], [2, 0, 0, 2], [2, 0, 0, 2]])
+        self.assertEqual(numbers_through(HOUSE, (2,), []), [[0, 0, 1, 0]])
+        self.assertEqual(numbers_through(HOUSE, (), [("gap",)]), [[0] * 4] * 2)
 
 
 class TestErrorsOfWays(unittest.TestCase):
