@@ -5,13 +5,14 @@ from liftheard.houses import check_floors
 from liftheard.rules import check_rule, stops_of
 
 LAST_SECOND = 1000000
+MOST_CALLS = 30
 
 
 def check_timed(house, calls):
-    """Raise InvalidCalls for the first call whose second is out of range or falls, or that is of no floor."""
+    """Raise InvalidCalls for the first call that is one too many, of a second that cannot be, or of no floor."""
     last = 0
     for index, (second, floor) in enumerate(calls):
-        if not last <= second <= LAST_SECOND or floor not in house.floors:
+        if index == MOST_CALLS or not last <= second <= LAST_SECOND or floor not in house.floors:
             raise InvalidCalls(index)
         last = second
 

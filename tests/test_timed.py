@@ -190,6 +190,31 @@ class TestThirty(TimedCase):
         stops += [(3, 33)]
         self.assertEqual(served_timed(HOUSE, "first", 0, calls), stops)
 
+    def test_thirty_of_one_floor(self):
+        self.assert_each(0, [(5, 0)] * 30, [(0, 5)])
+
+    def test_one_too_many(self):
+        for number in (31, 32, 60):
+            self.assert_invalid([(5, 0)] * number, 30)
+            self.assert_invalid([(100 * index, index % 4) for index in range(number)], 30)
+
+    def test_a_wrong_one_among_the_first_thirty_is_told_first(self):
+        for index, wrong in itertools.product((1, 15, 29), [(5, 4), (5, -1), (4, 0), (LAST + 1, 0)]):
+            for number in (30, 31, 32):
+                calls = [(5, 0)] * number
+                calls[index] = wrong
+                self.assert_invalid(calls, index)
+
+    def test_the_thirty_first_is_told_ahead_of_a_wrong_one_behind_it(self):
+        self.assert_invalid([(5, 0)] * 31 + [(4, 9)], 30)
+        self.assert_invalid([(5, 0)] * 30 + [(4, 9)], 30)
+
+    def test_rule_and_begin_are_told_ahead_of_one_too_many(self):
+        with self.assertRaises(UnknownRule):
+            served_timed(HOUSE, "last", 4, [(5, 0)] * 31)
+        with self.assertRaises(UnknownFloor):
+            served_timed(HOUSE, "near", 4, [(5, 0)] * 31)
+
 
 class TestErrors(TimedCase):
 
