@@ -2,7 +2,7 @@
 
 from liftheard.errors import InvalidNumber, TooMany
 from liftheard.hearing import check_hearing, next_floors
-from liftheard.ways import numbers_through, way_count, ways
+from liftheard.ways import links_of, numbers_through, way_count, ways
 
 MOST_WAYS = 60
 MOST_ROWS = 8
@@ -14,14 +14,14 @@ def floors_at(house, start, log, moment):
     check_hearing(house, start, log)
     if not 0 <= moment <= len(log):
         raise InvalidNumber(f"there is no moment {moment}")
-    numbers = numbers_through(house, start, log)[moment]
+    numbers = numbers_through(house, start, links_of(house, log))[moment]
     return [floor for floor in house.floors if numbers[floor] > 0]
 
 
 def best_moment(house, start, log):
     """Return the first moment at which a look leaves the fewest ways in the worst case, or None."""
     check_hearing(house, start, log)
-    worst = [max(numbers) for numbers in numbers_through(house, start, log)]
+    worst = [max(numbers) for numbers in numbers_through(house, start, links_of(house, log))]
     fewest = min(worst)
     return worst.index(fewest) if fewest > 0 else None
 

@@ -31,9 +31,8 @@ def numbers_behind(house, start, links):
     return numbers
 
 
-def numbers_through(house, start, log):
+def numbers_through(house, start, links):
     """Return for each moment, and for each floor, how many ways have the lift on this floor then."""
-    links = links_of(house, log)
     numbers = []
     for behind, ahead in zip(numbers_behind(house, start, links), numbers_ahead(house, links)):
         numbers.append([one * other for one, other in zip(behind, ahead)])

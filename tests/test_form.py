@@ -37,9 +37,29 @@ INTERFACE = {
         "two_floors": "house one other log", "two_ways": "house one other log",
         "whose_row": "house one other log index",
     },
+    "farnights": {
+        "floor_after": "house rule begin calls count", "seconds_after": "house rule begin calls count",
+        "first_night": "house rule begin calls floor", "guesses": "house nights",
+        "next_night": "house nights options",
+    },
+    "listeners": {"Listener": "house start", "Trial": "listener"},
+    "controls": {"Control": "house rule begin"},
 }
-METHODS = {("houses", "House"): {"seconds": "self one other", "turned": "self", "gaps": "self", "bells": "self",
-                                 "floors": "self", "__len__": "self", "__eq__": "self other"}}
+METHODS = {
+    ("houses", "House"): {"seconds": "self one other", "turned": "self", "gaps": "self", "bells": "self",
+                          "floors": "self", "__len__": "self", "__eq__": "self other"},
+    ("listeners", "Listener"): {
+        "hear": "self row", "told": "self moment floors", "go": "self name", "way_number": "self",
+        "mark": "self name", "undo": "self", "redo": "self", "floors_then": "self moment",
+        "apply_all": "self operations", "tried": "self operations keep", "replay": "cls house start operations",
+        "log": "self", "floors": "self", "marks": "self", "history": "self",
+    },
+    ("listeners", "Trial"): {"hold": "self", "__enter__": "self", "__exit__": "self kind value trace"},
+    ("controls", "Control"): {
+        "call": "self floor", "serve": "self", "serve_all": "self", "heard": "self", "here": "self",
+        "clock": "self", "open_calls": "self", "is_up": "self",
+    },
+}
 
 
 def parsed(path):

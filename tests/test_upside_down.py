@@ -3,9 +3,12 @@
 import itertools
 import unittest
 
+from liftheard.controls import Control
 from liftheard.errors import NoWay
+from liftheard.farnights import first_night, floor_after, guesses, seconds_after
 from liftheard.hearing import first_wrong, floors_behind
 from liftheard.houses import House
+from liftheard.listeners import Listener
 from liftheard.looks import best_moment, fewest_looks, floors_at, floors_by, least_slack
 from liftheard.nights import rules_of
 from liftheard.orders import least_waiting
@@ -96,6 +99,31 @@ class TestHearing(UpsideDown):
             self.assertEqual(fits(HOUSES[0].turned(), turned(stops), upside_down), fits(HOUSES[0], stops, riders))
 
 
+class TestListeners(UpsideDown):
+
+    def test_what_is_heard_and_told(self):
+        for (house, start, log), other in self.each_heard():
+            if not start or first_wrong(house, start, log) is not None:
+                continue
+            operations = [("hear", row) for row in log] + [("mark", "a"), ("told", len(log), (0, 1, 2, 3)), ("go", "a")]
+            one = Listener(house, start)
+            upside_down = Listener(other[0], other[1])
+            for name, *arguments in operations:
+                turned_ones = arguments
+                if name == "hear":
+                    turned_ones = turned_log(arguments)
+                if name == "told":
+                    turned_ones = [arguments[0], turned_set(arguments[1])]
+                self.assertEqual(getattr(upside_down, name)(*turned_ones), getattr(one, name)(*arguments))
+                self.assertEqual(upside_down.floors, turned_set(one.floors))
+                self.assertEqual(upside_down.way_number(), one.way_number())
+            for moment in range(len(log) + 1):
+                self.assertEqual(upside_down.floors_then(moment), sorted(turned(one.floors_then(moment))))
+                floors = (one.floors_then(moment)[0],)
+                one.told(moment, floors)
+                upside_down.told(moment, turned_set(floors))
+
+
 class TestLooks(UpsideDown):
 
     def test_moments(self):
@@ -160,6 +188,32 @@ class TestServing(UpsideDown):
         for house, begin in itertools.product(HOUSES, range(4)):
             for stops in itertools.product(range(4), repeat=3):
                 self.assertEqual(sounds(house.turned(), TOP - begin, turned(stops)), sounds(house, begin, stops))
+
+    def test_first_in_nights_far_out(self):
+        for house, begin, calls in self.each_calls():
+            one = house, "first", begin, calls
+            other = house.turned(), "first", TOP - begin, turned(calls)
+            for count in (0, 1, 2, 10 ** 18):
+                self.assertEqual(floor_after(*other, count), TOP - floor_after(*one, count))
+                self.assertEqual(seconds_after(*other, count), seconds_after(*one, count))
+            for floor in house.floors:
+                self.assertEqual(first_night(*other, TOP - floor), first_night(*one, floor))
+
+    def test_first_among_guesses(self):
+        for house, begin, calls in self.each_calls():
+            log = sounds(house, begin, calls)
+            found = [floor for rule, floor in guesses(house, [(calls, log)]) if rule == "first"]
+            self.assertIn(begin, found)
+            upside_down = guesses(house.turned(), [(turned(calls), log)])
+            self.assertEqual([floor for rule, floor in upside_down if rule == "first"], sorted(turned(found)))
+
+    def test_first_at_work(self):
+        for house, begin, calls in self.each_calls():
+            one, other = Control(house, "first", begin), Control(house.turned(), "first", TOP - begin)
+            for floor in calls:
+                self.assertEqual(other.call(TOP - floor), one.call(floor))
+            self.assertEqual(other.serve_all(), [(TOP - floor, seconds) for floor, seconds in one.serve_all()])
+            self.assertEqual((other.heard(), other.clock), (one.heard(), one.clock))
 
     def test_what_is_chosen_by_lower_floors_is_not_turned(self):
         even = House((2, 2), ())

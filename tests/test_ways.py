@@ -5,7 +5,7 @@ import unittest
 
 from liftheard.errors import InvalidLog, InvalidNumber, NoWay, UnknownFloor
 from liftheard.houses import House
-from liftheard.ways import judged, numbers_through, passed, way_at, way_count, ways
+from liftheard.ways import judged, links_of, numbers_through, passed, way_at, way_count, ways
 
 HOUSE = House((3, 2, 4), (1, 3))
 EVEN = House((3, 3), (1,))
@@ -98,10 +98,10 @@ class TestWays(unittest.TestCase):
 class TestNumbersThrough(unittest.TestCase):
 
     def test_numbers_of_ways_by_moment_and_floor(self):
-        log = [("gap",), ("go", 9)]
-        self.assertEqual(numbers_through(HOUSE, (0, 1), log), [[2, 2, 0, 0], [2, 0, 0, 2], [2, 0, 0, 2]])
+        links = links_of(HOUSE, [("gap",), ("go", 9)])
+        self.assertEqual(numbers_through(HOUSE, (0, 1), links), [[2, 2, 0, 0], [2, 0, 0, 2], [2, 0, 0, 2]])
         self.assertEqual(numbers_through(HOUSE, (2,), []), [[0, 0, 1, 0]])
-        self.assertEqual(numbers_through(HOUSE, (), [("gap",)]), [[0] * 4] * 2)
+        self.assertEqual(numbers_through(HOUSE, (), links_of(HOUSE, [("gap",)])), [[0] * 4] * 2)
 
 
 class TestErrorsOfWays(unittest.TestCase):
