@@ -44,6 +44,10 @@ INTERFACE = {
     },
     "listeners": {"Listener": "house start", "Trial": "listener"},
     "controls": {"Control": "house rule begin"},
+    "notation": {"format_log": "house log", "parse_log": "text"},
+    "pictures": {"shaft": "house floors", "ways_table": "house start log"},
+    "codec": {"encode_log": "house log", "decode_log": "values"},
+    "daybooks": {"Daybook": "text"},
 }
 METHODS = {
     ("houses", "House"): {"seconds": "self one other", "turned": "self", "gaps": "self", "bells": "self",
@@ -59,6 +63,7 @@ METHODS = {
         "call": "self floor", "serve": "self", "serve_all": "self", "heard": "self", "here": "self",
         "clock": "self", "open_calls": "self", "is_up": "self",
     },
+    ("daybooks", "Daybook"): {"listener": "self", "results": "self"},
 }
 
 

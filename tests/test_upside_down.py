@@ -3,7 +3,9 @@
 import itertools
 import unittest
 
+from liftheard.codec import decode_log, encode_log
 from liftheard.controls import Control
+from liftheard.daybooks import Daybook
 from liftheard.errors import NoWay
 from liftheard.farnights import first_night, floor_after, guesses, seconds_after
 from liftheard.hearing import first_wrong, floors_behind
@@ -11,8 +13,10 @@ from liftheard.houses import House
 from liftheard.listeners import Listener
 from liftheard.looks import best_moment, fewest_looks, floors_at, floors_by, least_slack
 from liftheard.nights import rules_of
+from liftheard.notation import format_log, parse_log
 from liftheard.orders import least_waiting
 from liftheard.pairs import two_floors, two_ways, whose_row
+from liftheard.pictures import shaft, ways_table
 from liftheard.pools import houses_left, possible_gaps
 from liftheard.riders import fits, rider_ways
 from liftheard.serving import served, waiting
@@ -153,6 +157,38 @@ class TestLooks(UpsideDown):
             self.assertEqual(two_ways(*other), two_ways(*one))
             for index in range(len(log)):
                 self.assertEqual(answer(whose_row, *other, index), answer(whose_row, *one, index))
+
+
+class TestTexts(UpsideDown):
+
+    def test_codes_and_texts(self):
+        for (house, _, log), (other, _, turned_rows) in self.each_heard():
+            self.assertEqual(decode_log(encode_log(other, turned_rows)), (house.turned(), turned_log(log)))
+            self.assertEqual(parse_log(format_log(other, turned_rows)), (house.turned(), turned_log(log)))
+            self.assertEqual(decode_log(encode_log(other, turned_rows))[0].turned(), house)
+            self.assertEqual(len(encode_log(other, turned_rows)), len(encode_log(house, log)))
+
+    def test_pictures(self):
+        for (house, start, log), other in self.each_heard():
+            lines = [line[3:] for line in ways_table(house, start, log).split("\n")]
+            self.assertEqual([line[3:] for line in ways_table(*other).split("\n")], lines[::-1])
+            self.assertEqual(shaft(other[0], other[1]).split("\n"), shaft(house, start).split("\n")[::-1])
+
+    def test_daybooks(self):
+        for (house, start, log), (other, turned_start, turned_rows) in self.each_heard():
+            if start and first_wrong(house, start, log) is None:
+                results = []
+                for book, places, rows in ((house, start, log), (other, turned_start, turned_rows)):
+                    gaps, bells, *entries = format_log(book, rows).split("\n")
+                    head = " ".join(["start", *map(str, places)])
+                    asks = ["ways"] + [f"then {moment}" for moment in range(len(rows) + 1)] + ["floors"]
+                    results.append(Daybook("\n".join([gaps, bells, head, *entries, *asks])).results.split("\n"))
+                one, upside_down = results
+                at = len(log) + 1
+                self.assertEqual(upside_down[:at], one[:at])
+                for line, turned_line in zip(one[at:], upside_down[at:]):
+                    floors = [int(floor) for floor in line.split(",")]
+                    self.assertEqual([int(floor) for floor in turned_line.split(",")], sorted(turned(floors)))
 
 
 class TestServing(UpsideDown):
