@@ -176,23 +176,24 @@ class Trial:
         self._operations = ()
         self._known = ()
         self._undone = ()
-        self._is_held = False
+        # None as long as the block is not held: `__exit__` may only ask whether something is None.
+        self._held = None
 
     def __enter__(self):
         listener = self._listener
         self._operations = listener._operations
         self._known = listener._known
         self._undone = listener._undone
-        self._is_held = False
+        self._held = None
         return self
 
     def hold(self):
         """Let the listener keep what is changed in the block."""
-        self._is_held = True
+        self._held = True
 
     def __exit__(self, kind, value, trace):
         listener = self._listener
-        if not self._is_held:
+        if self._held is None:
             listener._operations = self._operations
             listener._known = self._known
             listener._undone = self._undone

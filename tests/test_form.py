@@ -79,6 +79,93 @@ def parameters(function):
     return " ".join(argument.arg for argument in function.args.args)
 
 
+def is_place(node):
+    """Whether this is a name, or an attribute of such."""
+    while isinstance(node, ast.Attribute):
+        node = node.value
+    return isinstance(node, ast.Name)
+
+
+def is_value(node):
+    """Whether a row of `__exit__` or `finally` may give this value."""
+    match node:
+        case ast.Constant():
+            return True
+        case ast.List(elts=parts) | ast.Tuple(elts=parts):
+            return all(map(is_value, parts))
+        case ast.BinOp(left=left, op=ast.Add(), right=right):
+            return is_value(left) and is_value(right)
+        case ast.BinOp(left=left, op=ast.Sub(), right=ast.Constant(value=int())):
+            return is_value(left)
+    return is_place(node)
+
+
+def is_plain(row, of_exit):
+    """Whether a row other than an `if` may stand in `__exit__`, or in a `finally`."""
+    # L6 lists a few more rows, which the package does not need.
+    match row:
+        case ast.Pass():
+            return True
+        case ast.Return(value=None | ast.Constant(value=None | False)):
+            return of_exit
+        case ast.Assign(targets=[ast.Name()], value=value):
+            return is_value(value) and (isinstance(value, ast.Attribute) or not of_exit)
+        case ast.Assign(targets=[ast.Attribute() as target], value=value):
+            return is_place(target) and is_value(value)
+        case ast.AugAssign(target=target, op=ast.Add() | ast.Sub(), value=ast.Constant(value=int())):
+            return is_place(target) and (isinstance(target, ast.Attribute) or not of_exit)
+        case ast.Expr(value=ast.Call(func=ast.Attribute(value=place, attr="append"), args=[value], keywords=[])):
+            return is_place(place) and is_value(value)
+        case ast.Expr(value=ast.Call(func=ast.Attribute(value=place, attr="clear"), args=[], keywords=[])):
+            return is_place(place)
+    return False
+
+
+def asks_none(test):
+    """Whether a test is `is None` or `is not None` of a name or an attribute, or `and`, `or`, `not` of such tests."""
+    match test:
+        case ast.BoolOp(values=parts):
+            return all(map(asks_none, parts))
+        case ast.UnaryOp(op=ast.Not(), operand=part):
+            return asks_none(part)
+        case ast.Compare(left=left, ops=[ast.Is() | ast.IsNot()], comparators=[ast.Constant(value=None)]):
+            return is_place(left)
+    return False
+
+
+def wrong_rows(rows, of_exit):
+    """Yield the number of each of these rows of `__exit__` or `finally` that may not stand there."""
+    for row in rows:
+        if isinstance(row, ast.If):
+            if not asks_none(row.test):
+                yield row.lineno
+            yield from wrong_rows(row.body + row.orelse, of_exit)
+        elif not is_plain(row, of_exit):
+            yield row.lineno
+
+
+def wrongly_read(function):
+    """Yield the number of each row of `__exit__` that reads what it is handed otherwise than by `kind is None`."""
+    kind, *unread = [argument.arg for argument in function.args.args[1:]] or [None]
+    if function.args.vararg:
+        unread.append(function.args.vararg.arg)
+    asked = [node.left for node in ast.walk(function) if isinstance(node, ast.Compare)]
+    for node in ast.walk(function):
+        if isinstance(node, ast.Name) and (node.id in unread or node.id == kind and node not in asked):
+            yield node.lineno
+
+
+def wrong_ends(tree):
+    """The ascending numbers of all wrong rows of `__exit__` and `finally`, in a package with `__eq__` or `__len__`."""
+    wrong = []
+    for node in ast.walk(tree):
+        if isinstance(node, ast.FunctionDef) and node.name == "__exit__":
+            wrong += [*wrong_rows(node.body, True), *wrongly_read(node)]
+        elif isinstance(node, (ast.Try, ast.TryStar)):
+            wrong += wrong_rows(node.finalbody, False)
+    return sorted(set(wrong))
+
+
 class TestForm(unittest.TestCase):
 
     def test_folder_contains_nothing_else(self):
@@ -129,6 +216,87 @@ class TestForm(unittest.TestCase):
                             self.assertEqual(parameters(methods[method]), arguments)
                     else:
                         self.assertEqual(parameters(node), expected)
+
+    def test_rows_of_exit_and_finally(self):
+        # House has `__eq__` and `__len__`, so that no such row may ask a name or an attribute alone.
+        for path in FILES:
+            self.assertEqual(wrong_ends(parsed(path)), [], path.name)
+
+
+class TestEnds(unittest.TestCase):
+    """Whether the test of the rows of `__exit__` and `finally` finds what is wrong."""
+
+    ALIKE = (
+        "pass", "self.a = None", "self.a = 5", "self.a = b", "self.a.b = c.d", "self.a = [b, (1, c.d)]",
+        "self.a = b + c", "self.a = b - 1", "self.a += 1", "self.a -= 1", "self.a.append(b)", "self.a.clear()",
+        "b = self.a",
+    )
+    WRONG = (
+        "self.a = not b", "self.a = b if c is None else d", "self.a = b is None", "self.a = b or c", "self.a = f(b)",
+        "self.a = b - c", "self.a = b * 2", "self.a = -1", "self.a = b[0]", "self.a[0] = b", "self.a -= b",
+        "self.a *= 2", "self.shut()", "f(b)", "self.a.pop()", "self.a.append(f(b))", "del self.a", "raise a",
+        "assert a is None", "while a is None: pass", "for a in b: pass", "with a: pass", "return True", "return b",
+        "self.a = {}", "self.a = [*b]", "yield",
+    )
+    RIGHT_TESTS = (
+        "a is None", "a is not None", "self.a is None", "self.a.b is not None", "not self.a is None",
+        "a is None and self.b is None", "not (a is None or b is not None) and c is None",
+    )
+    WRONG_TESTS = (
+        "a", "self.a", "not a", "not self.a", "self.a is True", "self.a is not b", "self.a == None", "self.a == 1",
+        "self.a != 0", "self.a > 3", "a is None and b", "not (a is None or not self.b)", "f(a) is None",
+        "a[0] is None", "len(a)", "a in b", "None is a", "a is b is None", "True", "(a := b) is None",
+    )
+
+    def of_exit(self, *rows):
+        head = ["class Block:", "    def __exit__(self, kind, value, trace):"]
+        return wrong_ends(ast.parse("\n".join(head + [f"        {row}" for row in rows])))
+
+    def of_finally(self, *rows):
+        head = ["def told(self, a, b):", "    try:", "        pass", "    finally:"]
+        return wrong_ends(ast.parse("\n".join(head + [f"        {row}" for row in rows])))
+
+    def test_rows(self):
+        for row in self.ALIKE:
+            with self.subTest(row=row):
+                self.assertEqual((self.of_exit(row), self.of_finally(row)), ([], []))
+        for row in self.WRONG:
+            with self.subTest(row=row):
+                self.assertEqual((self.of_exit("pass", row), self.of_finally(row, "pass")), ([4], [5]))
+
+    def test_rows_of_one_of_the_two(self):
+        for row in ("return", "return None", "return False"):
+            self.assertEqual((self.of_exit(row), self.of_finally(row)), ([], [5]))
+        for row in ("a = b", "a = 1", "a = b + c", "a += 1", "a -= 1"):
+            self.assertEqual((self.of_exit(row), self.of_finally(row)), ([3], []))
+
+    def test_tests(self):
+        for test in self.RIGHT_TESTS:
+            with self.subTest(test=test):
+                self.assertEqual((self.of_exit(f"if {test}: pass"), self.of_finally(f"if {test}: pass")), ([], []))
+        for test in self.WRONG_TESTS:
+            with self.subTest(test=test):
+                self.assertEqual((self.of_exit(f"if {test}: pass"), self.of_finally(f"if {test}: pass")), ([3], [5]))
+
+    def test_rows_and_tests_within_an_if(self):
+        for row in ("self.shut()", "if self.a: pass"):
+            for rows in (["if a is None:", f"    {row}"], ["if a is None: pass", "else:", f"    {row}"]):
+                with self.subTest(rows=rows):
+                    last = len(rows)
+                    self.assertEqual((self.of_exit(*rows), self.of_finally(*rows)), ([last + 2], [last + 4]))
+        rows = ["if a is None: pass", "elif self.a: pass", "else:", "    self.b = not a"]
+        self.assertEqual((self.of_exit(*rows), self.of_finally(*rows)), ([4, 6], [6, 8]))
+
+    def test_what_exit_is_handed(self):
+        for row in ("if kind is None: pass", "if kind is not None: self.a = None"):
+            self.assertEqual(self.of_exit(row), [])
+        for row in ("self.a = kind", "self.a.append(value)", "if value is None: pass", "if trace is None: pass",
+                    "if kind is None: self.a = trace", "self.a = [kind]"):
+            with self.subTest(row=row):
+                self.assertEqual(self.of_exit(row), [3])
+        text = "class Block:\n    def __exit__(self, *told):\n        "
+        self.assertEqual(wrong_ends(ast.parse(text + "self.a = told")), [3])
+        self.assertEqual(wrong_ends(ast.parse(text + "self.a = None")), [])
 
 
 if __name__ == "__main__":

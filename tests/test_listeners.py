@@ -702,6 +702,54 @@ class TestTrial(TrialCase):
             listener.mark("b")
         self.assertEqual(listener.marks, ["a"])
 
+    def test_a_trial_entered_once_more(self):
+        listener = self.begun()
+        trial = Trial(listener)
+        with self.assertRaises(NoWay):
+            with trial:
+                listener.mark("a")
+                listener.hear(("go", 80))
+        self.assert_as_begun(listener)
+        listener = self.begun()
+        trial = Trial(listener)
+        for name in ("a", "b"):
+            with trial:
+                listener.mark(name)
+                trial.hold()
+                trial.hold()
+            with trial:
+                self.assertIs(listener.undo(), True)
+        self.assertEqual(listener.history, [("hear", ("gap",)), ("mark", "a"), ("mark", "b")])
+        with self.assertRaises(KeyError):
+            with trial:
+                listener.mark("c")
+                raise KeyError
+        self.assertEqual(listener.marks, ["a", "b"])
+
+    def test_an_error_in_one_in_another(self):
+        for is_held, is_outer_held in itertools.product((False, True), repeat=2):
+            listener = self.begun()
+            with Trial(listener) as outer:
+                listener.mark("a")
+                with self.assertRaises(UnknownMark):
+                    with Trial(listener) as inner:
+                        listener.mark("b")
+                        if is_held:
+                            inner.hold()
+                        listener.go("c")
+                marks = ["a", "b"] if is_held else ["a"]
+                self.assertEqual(listener.marks, marks)
+                with self.assertRaises(InvalidName):
+                    listener.apply_all([("mark", "d"), ("undo",), ("undo",), ("mark", "D")])
+                self.assertEqual(listener.marks, marks)
+                if is_outer_held:
+                    outer.hold()
+            if is_outer_held:
+                self.assertEqual(listener.marks, marks)
+                self.assertIs(listener.redo(), False)
+            else:
+                self.assert_as_begun(listener)
+
 
 class TestTried(TrialCase):
 
